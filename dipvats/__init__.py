@@ -1,0 +1,1 @@
+"""A candle maker's dipping: frames, one vat, and a minute to a dip."""
