@@ -2,12 +2,9 @@
 
 import unittest
 
-from tests.lines import LineTest, begin, dip, frame, last, look, replies, sell, wait, wax
-
-# No line of 60 calls comes so far; these are longer, to stand at the edge that's told.
-TO_99900 = [wait(100)] * 999
-TO_99999 = TO_99900 + [wait(99)]
-TO_100000 = TO_99900 + [wait(100)]
+from tests.lines import (
+    LineTest, TO_99900, TO_99999, TO_100000, begin, dip, frame, last, look, replies, sell, wait, wax,
+)
 
 
 class WaitTest(LineTest):
